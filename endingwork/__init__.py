@@ -1,1 +1,1 @@
-"""Work that always ends: an order of work that is looked through before it is taken."""
+"""Work that always ends: an order that is looked through before it is taken, and cases that are never stuck."""

@@ -6,9 +6,27 @@ BEGIN = 0
 WORK = 1
 APART = 2
 PERSON = 3
+READY = 4
+OPEN = 5
+DO = 6
+NEXT = 7
+STATE = 8
 
-# How many numbers each call is handed: begin, work, apart, person, ready.
-HANDED = (0, 3, 2, 1, 0)
+# How many numbers each call is handed, from begin to leave.
+HANDED = (0, 3, 2, 1, 0, 0, 3, 1, 1, 1)
+
+
+def answer_on_cases(machine, call, handed):
+    """The numbers that one of the calls from open to leave answers."""
+    if call == OPEN:
+        return machine.open_case()
+    if call == DO:
+        return machine.do(handed[0], handed[1], handed[2])
+    if call == NEXT:
+        return machine.next_step(handed[0])
+    if call == STATE:
+        return machine.state(handed[0])
+    return machine.leave(handed[0])
 
 
 def answer(machine, call, handed):
@@ -21,7 +39,9 @@ def answer(machine, call, handed):
         return machine.apart(handed[0], handed[1])
     if call == PERSON:
         return machine.person(handed[0])
-    return machine.ready()
+    if call == READY:
+        return machine.ready()
+    return answer_on_cases(machine, call, handed)
 
 
 def answers(calls):

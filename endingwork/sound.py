@@ -1,8 +1,6 @@
 """Whether an order can be worked: all its marks, and the first of the four that isn't so."""
 
-from endingwork.steps import BEGINNING, END
-
-MOST_MARKS = 1024
+from endingwork.steps import BEGINNING, END, MOST_TOGETHER
 
 
 def one_step_more(steps, marks):
@@ -24,7 +22,7 @@ def all_marks(steps):
                     met[later] = True
                     coming.append(later)
         # Asked within the search, so that what is refused is not searched to its end.
-        if len(met) > MOST_MARKS:
+        if len(met) > MOST_TOGETHER:
             return None
         newest = coming
     return behind

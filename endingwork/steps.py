@@ -6,6 +6,9 @@ Marks are told as bits: bit k stands for place k.
 BEGINNING = 1
 END = 2
 
+# Of all marks of an order, and of the cases that are looked at for how far one is.
+MOST_TOGETHER = 1024
+
 
 class Step:
     """What must be marked for it, what is marked behind it, and the part of who does it."""

@@ -5,6 +5,7 @@ from endingwork.order import answers
 LARGEST = 4294967295
 BEGIN = [0]
 READY = [4]
+OPEN = [5]
 
 # The shortest order that is sound: from the beginning straight to the end.
 SHORTEST = [[1, 1, 2, 0]]
@@ -20,6 +21,27 @@ def apart(a, b):
 
 def person(parts):
     return [3, parts]
+
+
+def do(k, step, who):
+    return [6, k, step, who]
+
+
+def next_of(k):
+    return [7, k]
+
+
+def state(k):
+    return [8, k]
+
+
+def leave(who):
+    return [9, who]
+
+
+def parts(*numbers):
+    """The bits of these parts."""
+    return sum(1 << number for number in numbers)
 
 
 def places(*numbers):
@@ -53,3 +75,8 @@ def asked(*calls):
 
 def last(*calls):
     return asked(*calls)[-1]
+
+
+def behind(prepared, *calls):
+    """The answers of the calls alone that come behind what is prepared."""
+    return asked(*prepared, *calls)[len(prepared):]

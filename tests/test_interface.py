@@ -3,7 +3,7 @@
 import unittest
 
 from endingwork.order import answers
-from helper import BEGIN, LARGEST, READY, SHORTEST, apart, flat, person, split, work
+from helper import BEGIN, LARGEST, OPEN, READY, SHORTEST, apart, do, flat, leave, next_of, person, split, state, work
 
 
 def refuse(*handed):
@@ -20,10 +20,16 @@ class Unchanging(list):
 MIXED = [
     BEGIN, work(1, 4, 2), work(4, 8), READY, work(8, 2, 15), apart(0, 2), apart(0, 3), person(65535),
     work(16, 2), READY, BEGIN, *SHORTEST, person(65536), READY, work(1, 2), READY, person(0),
+    OPEN, person(1), OPEN, state(0), next_of(0), leave(1), do(0, 0, 0), do(0, 0, 1), state(0), next_of(0), state(1),
+    leave(1), leave(1), OPEN, do(0, 0, 1), next_of(1), BEGIN, work(1, 4), work(4, 2), apart(0, 1), person(1),
+    person(1), READY, OPEN, next_of(0), do(0, 0, 1), state(0), next_of(0), do(0, 1, 1),
 ]
 MIXED_TOLD = [
     1, 0, 1, 0, 1, 1, 2, 2, 1, 1, 2, 1, 0, 1, -22, 1, 0,
     1, 3, 2, 4, 3, 1, 0, 1, 0, 1, -22, 1, 0, 1, -16, 1, -16, 1, 0,
+    1, -33, 1, 1, 1, 0, 2, 0, 1, 3, 1, 0, 1, 1, -33, 1, -1, 1, 0, 2, 1, 2, 1, 0, 1, -2,
+    1, 0, 1, -2, 1, -33, 1, -11, 1, -2, 1, 0, 1, 0, 1, 1, 1, 0, 1, 0,
+    1, 1, 1, 0, 1, 0, 3, 2, 0, 0, 1, 1, 2, 0, 4, 3, 1, 1, 0, 1, -17,
 ]
 
 
@@ -42,6 +48,7 @@ class Interface(unittest.TestCase):
         first.clear()
         self.assertEqual(answers(calls), MIXED_TOLD)
         self.assertEqual(answers(flat([BEGIN, READY])), [1, 0, 2, 2, 1])
+        self.assertEqual(answers(flat([BEGIN, OPEN, state(0), leave(0)])), [1, 0, 1, -16, 1, -2, 1, -2])
         self.assertEqual(answers(calls), MIXED_TOLD)
 
     def test_a_taken_order_is_not_kept_for_the_next_time(self):
@@ -64,6 +71,13 @@ class Interface(unittest.TestCase):
         self.assertEqual(split(answers(flat(calls))), [
             [0], [-22], [-22], [-22], [-22], [-22], [-22], [-22], [0], [-22], [-22], [0], [-16], [-16], [-22]])
 
+    def test_the_largest_numbers_of_cases_steps_and_people(self):
+        calls = [do(LARGEST, LARGEST, LARGEST), do(0, LARGEST, 0), do(0, 0, LARGEST), do(LARGEST, 0, 0),
+                 next_of(LARGEST), state(LARGEST), leave(LARGEST)]
+        prepared = [BEGIN, *SHORTEST, person(1), READY, OPEN]
+        self.assertEqual(answers(flat([*prepared, *calls])), [1, 0] * 5 + [1, -2] * 7)
+        self.assertEqual(answers(flat([BEGIN, *calls])), [1, 0] + [1, -2] * 7)
+
     def test_400_calls(self):
         calls = [BEGIN] + [work(1, 2)] * 20 + [apart(0, 1)] * 40 + [person(1)] * 10
         calls += [READY] * (400 - len(calls))
@@ -76,3 +90,24 @@ class Interface(unittest.TestCase):
         calls = [BEGIN] + [work(1, 1 | 4 << k) for k in range(10)]
         calls += [READY] * (400 - len(calls))
         self.assertEqual(split(answers(flat(calls)))[11:], [[1, 0]] * 389)
+
+    def test_400_calls_with_all_ten_among_them(self):
+        # Twenty times the same from begin on: one case is brought to its end, another is left on its way.
+        prepared = [BEGIN, work(1, 4), work(4, 2), apart(0, 1), person(1), person(1), READY]
+        prepared_told = [[0], [0], [1], [0], [0], [1], [0]]
+        case = [OPEN, next_of(0), do(0, 0, 0), do(0, 1, 0), leave(1), state(0), next_of(0), do(0, 1, 1), state(0),
+                next_of(0), OPEN, leave(0), do(1, 0, 1)]
+        case_told = [[0], [2, 0, 0], [1], [-17], [-33], [0, 4], [1, 1, 1], [0], [1, 2], [0], [1], [-33], [1]]
+        self.assertEqual(len(prepared + case), 20)
+        calls, told = (prepared + case) * 20, (prepared_told + case_told) * 20
+        self.assertEqual({call[0] for call in calls}, set(range(10)))
+        self.assertEqual(split(answers(flat(calls))), told)
+        self.assertEqual(split(answers(flat(calls))), told)
+
+    def test_400_calls_that_look_at_1024_cases_each(self):
+        # Ten rounds that are apart from the way to the end, which nobody goes until the last has come.
+        order = [BEGIN, work(1, 2, 1), *[work(1, 1)] * 10, *[apart(0, k) for k in range(1, 11)], person(1), READY]
+        calls = order + [OPEN] * (397 - len(order)) + [person(2), OPEN, next_of(0)]
+        self.assertEqual(len(calls), 400)
+        rows = split(answers(flat(calls)))
+        self.assertEqual(rows[len(order):], [[-33]] * (397 - len(order)) + [[1], [0], [1, 0, 1]])

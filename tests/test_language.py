@@ -90,6 +90,23 @@ class Language(unittest.TestCase):
             self.assertEqual(node.level, 0, at)
             self.assertTrue(all(alias.name != "*" and alias.asname is None for alias in node.names), at)
 
+    def test_no_two_files_draw_from_one_another(self):
+        drawn = {f"endingwork.{name[:-3]}": [node.module for node in ast.walk(tree) if isinstance(node, ast.ImportFrom)]
+                 for name, tree in trees()}
+        while drawn:
+            free = [name for name, others in drawn.items() if not any(other in drawn for other in others)]
+            self.assertNotEqual(free, [], drawn)
+            drawn = {name: others for name, others in drawn.items() if name not in free}
+
+    def test_no_local_is_called_like_an_import_or_a_class(self):
+        for name, tree in trees():
+            taken = [node.name for node in ast.walk(tree) if isinstance(node, (ast.alias, ast.ClassDef))]
+            for function in [node for node in ast.walk(tree) if isinstance(node, ast.FunctionDef)]:
+                local = [node.arg for node in ast.walk(function) if isinstance(node, ast.arg)]
+                local += [node.id for node in ast.walk(function)
+                          if isinstance(node, ast.Name) and isinstance(node.ctx, ast.Store)]
+                self.assertEqual(sorted(set(local) & set(taken)), [], (name, function.name))
+
     def test_names(self):
         for at, name in bound_names():
             if name not in DOUBLE_UNDERSCORED:
